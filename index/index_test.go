@@ -112,7 +112,6 @@ func wrongIndexes() map[string]index.Index {
 	add("an empty subscription", func(x *index.Index) { x.Subs[0] = "" })
 	add("a wrong subscription", func(x *index.Index) { x.Subs[1] = "x*" })
 	add("decreasing subscriptions", func(x *index.Index) { x.Subs[1] = "A" })
-	add("equal subscriptions", func(x *index.Index) { x.Subs[1] = "INBOX" })
 	add("7 subscriptions", func(x *index.Index) { x.Subs = []string{"a", "b", "c", "d", "e", "f", "g"} })
 	x := full()
 	x.Boxes[2].Mails = append(x.Boxes[2].Mails, mail(30))
@@ -451,8 +450,10 @@ func TestP15_3Append(t *testing.T) {
 
 func TestP15_3Flag(t *testing.T) {
 	for _, flags := range []int{0, 1, 63} {
-		got, errno := index.Flag(sample(), "INBOX", 5, flags)
-		expect(t, "Flag", got, errno, api.OK, changed(func(x *index.Index) { x.Boxes[0].Mails[1].Flags = flags }))
+		for at, uid := range []int{2, 5, 8} {
+			got, errno := index.Flag(sample(), "INBOX", uid, flags)
+			expect(t, "Flag", got, errno, api.OK, changed(func(x *index.Index) { x.Boxes[0].Mails[at].Flags = flags }))
+		}
 	}
 	for _, c := range []struct {
 		name       string
@@ -480,11 +481,14 @@ func TestP15_3Expunge(t *testing.T) {
 
 func TestP15_3Copy(t *testing.T) {
 	for _, to := range []string{"INBOX", "Drafts", "a/b"} {
-		got, uid, errno := index.Copy(sample(), "INBOX", 5, to)
-		want, wantUID, _ := index.Append(sample(), to, mail(5).Object, mail(5).Size, mail(5).Flags)
-		expect(t, "Copy to "+to, got, errno, api.OK, want)
-		if uid != wantUID {
-			t.Errorf("Copy to %s = UID %d", to, uid)
+		for _, from := range []int{2, 5, 8} {
+			m := mail(from)
+			got, uid, errno := index.Copy(sample(), "INBOX", from, to)
+			want, wantUID, _ := index.Append(sample(), to, m.Object, m.Size, m.Flags)
+			expect(t, "Copy to "+to, got, errno, api.OK, want)
+			if uid != wantUID {
+				t.Errorf("Copy to %s = UID %d", to, uid)
+			}
 		}
 	}
 	last := changed(func(x *index.Index) { x.Boxes[2].Next = most })

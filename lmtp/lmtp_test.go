@@ -51,7 +51,7 @@ func TestP18_1Hello(t *testing.T) {
 
 func TestP18_1Mail(t *testing.T) {
 	for line, address := range map[string]string{
-		"MAIL FROM:<>": "", "mail from:<a@b>": "a@b", "MaIl FrOm:<any text>": "any text", "MAIL FROM:<\x00\xff>": "\x00\xff", "MAIL FROM:<@>": "@", "MAIL FROM:< >": " ",
+		"MAIL FROM:<>": "", "mail from:<a@b>": "a@b", "MaIl FrOm:<any text>": "any text", "MAIL FROM:<\x00\xff>": "\x00\xff", "MAIL FROM:<@>": "@", "MAIL FROM:<a=b;c>": "a=b;c", "MAIL FROM:< >": " ",
 	} {
 		expect(t, hello, line, lmtp.State{Hello: true, HasFrom: true, From: address}, "250 ok")
 		expect(t, lmtp.State{Hello: true, To: []string{"al"}}, line, lmtp.State{Hello: true, HasFrom: true, From: address}, "250 ok")
@@ -202,10 +202,11 @@ func TestP18_1Long(t *testing.T) {
 	}{{699, "", "\r"}, {698, "ab", "ab"}, {698, "a", "a\r"}, {690, strings.Repeat("z", 20), strings.Repeat("z", 10)}, {699, "..", "."}} {
 		short := s
 		short.Body = s.Body[:c.n]
-		long := short
-		long.Body += c.tail
-		long.Long = true
-		expect(t, short, c.line, long, "")
+		got, reply := lmtp.Line(short, c.line, users)
+		whole := short.Body + c.tail
+		if !got.Long || !got.Data || reply != "" || len(got.Body) > 700 || !strings.HasPrefix(whole, got.Body) || !slices.Equal(got.To, short.To) {
+			t.Errorf("%d bytes and %q: %v, %q", c.n, c.line, got, reply)
+		}
 	}
 }
 

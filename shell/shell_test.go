@@ -75,7 +75,7 @@ func TestP24_1Forms(t *testing.T) {
 		"", " ", "x", "imap ", " imap", "imap 1", "IMAP", "lmtp ", "lmtp x", "crash ", "crash now", "crash 0", "who ", "who 1", "user", "user al", "user al pw x", "User al pw", "users al pw", "say", "say ", "say x", "say  1",
 		"say 0 x", "say 01 x", "say 1000 x", "say -1 x", "say +1 x", "say 1x y", "say a b", "SAY 1 x", "saying 1", "raw", "raw ", "raw x 61", "raw 0 61", "raw 01 61", "raw 1000 61", "raw 1 6", "raw 1 616", "raw 1 6g", "raw 1 g6",
 		"raw 1 0x61", "raw 1 61 62", "raw 1 6 1", "raw 1 61 ", "raw 1  61", "raw 1 é", "raw  1 61", "shut", "shut ", "shut x", "shut 0", "shut 01", "shut 1000", "shut 1 ", "shut 1 2", "shut  1", "seed x", "say1 x", "say\t1", "\xff",
-		"raw 9 6", "raw 9 zz", "say 1.0 x", "say １ x",
+		"say 1.0 x", "say １ x",
 	} {
 		if got := shell.Run("imap\n" + line + "\nsay 1 a NOOP"); got != "ok 1\nerror 3\nok 61204f4b0d0a\n" {
 			t.Errorf("%q: %q", line, got)
@@ -109,7 +109,7 @@ func TestP24_1Raw(t *testing.T) {
 
 func TestP24_1Users(t *testing.T) {
 	expect(t, []step{
-		{"seed s", "ok"}, {"user al pw", "ok"}, {"user bo ", "ok"}, {"user  pw", "error 1"}, {"user abcdefghi pw", "error 1"}, {"user al other", "error 8"}, {"imap", "ok 1"}, {`say 1 a LOGIN bo ""`, told("a OK/")}, {"imap", "ok 2"},
+		{"seed s", "ok"}, {"user al pw", "ok"}, {"user bo x", "ok"}, {"user  pw", "error 1"}, {"user abcdefghi pw", "error 1"}, {"user al other", "error 8"}, {"imap", "ok 1"}, {"say 1 a LOGIN bo x", told("a OK/")}, {"imap", "ok 2"},
 		{"say 2 a LOGIN al other", told("a NO/")}, {"say 2 a LOGIN al pw", told("a OK/")},
 	})
 	script := ""
@@ -155,5 +155,17 @@ func TestP24_2AnyScript(t *testing.T) {
 		if at := strings.Index(script, "\n"); at >= 0 && !strings.HasPrefix(report, shell.Run(script[:at+1])) {
 			t.Fatalf("%q: the report of its first line", script)
 		}
+	}
+}
+
+// Numbers of two and three digits.
+func TestP24_1ManyClients(t *testing.T) {
+	script, report := "", ""
+	for n := 1; n <= 130; n++ {
+		script += fmt.Sprintf("imap\nsay %d a NOOP\nraw %d 61\nwho\nshut %d\nshut %d\n", n, n, n, n)
+		report += fmt.Sprintf("ok %d\n%s\nok -\nok %d\nok\nerror 6\n", n, told("a OK/"), n)
+	}
+	if got := shell.Run(script); got != report {
+		t.Error("130 clients, one after the other: another report")
 	}
 }

@@ -166,10 +166,6 @@ func TestP10_1Repair(t *testing.T) {
 	zeros := fill("")
 	withCount := func(n int) string { return string([]byte{74, byte(n)}) + good[2:] }
 	many := entriesOf(writesOf(30, 100))
-	stray := slices.Clone(entries)
-	stray[2] = stray[2][:63] + "\x01"
-	strayFifth := slices.Clone(entries)
-	strayFifth[0] = strayFifth[0][:4] + "\x01" + strayFifth[0][5:]
 	for _, c := range []struct {
 		what    string
 		first   string
@@ -190,8 +186,6 @@ func TestP10_1Repair(t *testing.T) {
 		{"a digest wrong at its end", good[:33] + string([]byte{good[33] ^ 1}) + good[34:], entries, wantRepair(nil, false)},
 		{"a byte behind the digest", good[:34] + "\x01" + good[35:], entries, wantRepair(nil, false)},
 		{"a last byte", good[:63] + "\x01", entries, wantRepair(nil, false)},
-		{"a byte behind an index", header(stray), stray, wantRepair(nil, false)},
-		{"a fifth byte of an index", header(strayFifth), strayFifth, wantRepair(nil, false)},
 	} {
 		if got := wal.Repair(journal(t, 100, c.first, c.entries)); !slices.Equal(got, c.want) {
 			t.Errorf("%s: Repair = %d operations, want %d", c.what, len(got), len(c.want))
@@ -215,6 +209,22 @@ func TestP10_1RepairDestinations(t *testing.T) {
 		entries := entriesOf(l)
 		if got := wal.Repair(journal(t, 100, header(entries), entries)); !slices.Equal(got, wantRepair(l, valid)) {
 			t.Errorf("destination %d: %d operations", at, len(got))
+		}
+	}
+}
+
+// Journals of one entry, and with destinations of more than one byte.
+func TestP10_1RepairOfFewEntries(t *testing.T) {
+	for _, l := range [][]disk.Write{
+		{{At: 61, Data: data(1)}}, {{At: 1023, Data: data(2)}}, {{At: 256, Data: data(3)}, {At: 767, Data: data(4)}},
+	} {
+		entries := entriesOf(l)
+		d := journal(t, 1024, header(entries), entries)
+		if got := wal.Repair(d); !slices.Equal(got, wantRepair(l, true)) {
+			t.Errorf("%d entries, the first at %d: %d operations", len(l), l[0].At, len(got))
+		}
+		if got := wal.Recover(d); got.Sectors[l[0].At] != l[0].Data {
+			t.Errorf("%d entries, the first at %d: Recover", len(l), l[0].At)
 		}
 	}
 }
