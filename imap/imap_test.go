@@ -489,6 +489,9 @@ func TestP22_2Search(t *testing.T) {
 	}
 	c.still("SEARCH ALL", "UID SEARCH ALL")
 	c.refused("BAD", "SEARCH", "SEARCH X", "SEARCH (ALL)", "SEARCH ALL ()", "SEARCH NOT", "UID SEARCH", "UID SEARCH X", "SEARCH CHARSET UTF-8 ALL")
+	deep := strings.Repeat("NOT ", 15) + "SEEN"
+	c.expect("SEARCH "+deep, "* SEARCH 1", "a OK")
+	c.refused("BAD", "SEARCH NOT "+deep, "UID SEARCH NOT "+deep, "SEARCH ALL NOT "+deep)
 	c.do("a CREATE b")
 	c.do("a SELECT b")
 	c.expect("SEARCH ALL", "* SEARCH", "a OK")

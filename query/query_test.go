@@ -11,6 +11,13 @@ import (
 
 const text = "From: Al <al@here>\r\nTo: bo\r\n cy\r\nSubject: Hello World\r\nX-Tag: one\r\nSUBJECT: second\r\n\r\nBody text\r\nFrom: nobody\r\n"
 
+func refuse(t *testing.T, words []string) {
+	t.Helper()
+	if _, errno := query.Parse(words); errno != api.ErrForm {
+		t.Errorf("Parse(%q) = %d", words, errno)
+	}
+}
+
 func view() query.View {
 	return query.View{Seq: 3, UID: 30, Flags: 0, Size: 100, Text: text, Seqs: 5, UIDs: 50}
 }
@@ -151,7 +158,7 @@ func TestP20_1Levels(t *testing.T) {
 		expect(t, nested(n, "ALL"), view(), n%2 == 0)
 		expect(t, nested(n, "SUBJECT", "hello"), view(), n%2 == 0)
 	}
-	for _, n := range []int{17, 18, 40, 5000} {
+	for _, n := range []int{16, 17, 18, 40, 5000} {
 		for _, name := range []string{"NOT", "OR"} {
 			l := append(slices.Repeat([]string{name}, n), slices.Repeat([]string{"ALL"}, n+1)...)
 			if name == "NOT" {
@@ -171,11 +178,34 @@ func TestP20_1Levels(t *testing.T) {
 		left := append(slices.Repeat([]string{"OR"}, n), "ALL")
 		expect(t, append(left, slices.Repeat([]string{"SEEN"}, n)...), view(), true)
 	}
-	for _, n := range []int{17, 18, 40} {
+	for _, n := range []int{16, 17, 18, 40} {
 		if _, errno := query.Parse(append(slices.Repeat([]string{"OR", "SEEN"}, n), "ALL")); errno != api.ErrForm {
 			t.Errorf("OR in the second key, %d times: %d", n, errno)
 		}
 	}
+}
+
+// The deepest key that is taken stands 16 levels deep, whatever it is and whatever it stands in.
+func TestP20_1DeepestLevel(t *testing.T) {
+	deepest := nested(15)
+	for s, want := range map[string]bool{
+		"SEEN": true, "3": false, "UID 30": false, "LARGER 5": false, "FROM nobody": true, "HEADER X-Tag two": true, "BODY zz": true, "OLD": false,
+	} {
+		expect(t, append(slices.Clone(deepest), words(s)...), view(), want)
+		refuse(t, append(nested(16), words(s)...))
+	}
+	mixed := slices.Concat(slices.Repeat([]string{"NOT", "OR", "SEEN"}, 7), []string{"NOT"})
+	expect(t, slices.Concat(mixed, []string{"UNSEEN"}), view(), true)
+	refuse(t, slices.Concat(mixed, []string{"NOT", "UNSEEN"}))
+	// Each of both keys of an OR at level 15 stands 16 levels deep, so none of them may contain another one.
+	inner := append(nested(14), "OR")
+	expect(t, slices.Concat(inner, []string{"SEEN", "UNSEEN"}), view(), true)
+	refuse(t, slices.Concat(inner, []string{"NOT", "SEEN", "UNSEEN"}))
+	refuse(t, slices.Concat(inner, []string{"SEEN", "NOT", "UNSEEN"}))
+	// Each key of the query starts at the first level again, also behind one that is as deep as can be.
+	expect(t, slices.Concat(nested(15, "SEEN"), nested(15, "SEEN"), nested(14, "UNSEEN")), view(), true)
+	refuse(t, slices.Concat([]string{"ALL"}, nested(15, "SEEN"), nested(16, "UNSEEN")))
+	refuse(t, slices.Concat(nested(16, "UNSEEN"), []string{"ALL"}))
 }
 
 func TestP20_2(t *testing.T) {
