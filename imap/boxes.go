@@ -141,7 +141,7 @@ func (k *call) lsub() result {
 // tellNames tells those of the names that the client asks for.
 func (k *call) tellNames(kind string, names []string) result {
 	k.args.text()
-	wanted := k.args.text()
+	wanted := k.args.box()
 	if !k.args.complete() {
 		return bad
 	}

@@ -369,6 +369,52 @@ func TestP22_2List(t *testing.T) {
 	c.refused("BAD", "LIST", "LIST *", `LIST "" * x`, `LIST () *`, "LSUB", "LSUB x", "LSUB a b c", `LIST "" (*)`)
 }
 
+// The second text of LIST and LSUB names INBOX in any case; all else is compared as it is.
+func TestP22_2ListOfInbox(t *testing.T) {
+	c := reader(t)
+	c.expect("CREATE old", "a OK")
+	names := []string{"INBOX", "inbox", "InBox", `"InBox"`, `"INBOX"`, "{5}\r\niNBOX", "{5}\r\ninbox"}
+	for _, name := range names {
+		c.expect(`LIST "" `+name, `* LIST () "/" INBOX`, "a OK")
+		c.expect(`LSUB "" `+name, "a OK")
+	}
+	for _, line := range []string{"SUBSCRIBE old", "SUBSCRIBE inbox"} {
+		c.expect(line, "a OK")
+	}
+	for _, name := range names {
+		c.expect(`LSUB "" `+name, `* LSUB () "/" INBOX`, "a OK")
+		c.expect(`LIST inbox `+name, `* LIST () "/" INBOX`, "a OK")
+		c.expect(`LSUB Inbox `+name, `* LSUB () "/" INBOX`, "a OK")
+		c.still(`LIST "" `+name, `LSUB "" `+name)
+	}
+	c.expect(`LIST inbox old`, `* LIST () "/" old`, "a OK")
+	c.expect(`LSUB inbox old`, `* LSUB () "/" old`, "a OK")
+	for _, name := range []string{"OLD", "Old", `"OLD"`, "inbo", "inboxx", `" inbox"`, `"inbox "`, "{6}\r\n\u0131nbox", "inbox*", `""`} {
+		c.expect(`LIST "" `+name, "a OK")
+		c.expect(`LSUB "" `+name, "a OK")
+	}
+	c.refused("BAD", "LIST inbox", "LSUB inbox", `LIST "" (inbox)`, `LSUB "" inbox inbox`)
+}
+
+// The names that an index contains are compared as they are, so one that only resembles INBOX is never asked for.
+func TestP22_2ListOfNamesLikeInbox(t *testing.T) {
+	c := reader(t)
+	x, errno := index.Create(c.state.Session.Index, "inbox")
+	if errno != api.OK {
+		t.Fatal(errno)
+	}
+	if x, errno = index.Subscribe(x, "inbox", true); errno != api.OK {
+		t.Fatal(errno)
+	}
+	c.state.Session.Index = x
+	for _, name := range []string{"INBOX", "inbox", `"Inbox"`} {
+		c.expect(`LIST "" `+name, `* LIST () "/" INBOX`, "a OK")
+		c.expect(`LSUB "" `+name, "a OK")
+	}
+	c.expect(`LIST "" *`, `* LIST () "/" INBOX`, `* LIST () "/" inbox`, "a OK")
+	c.expect(`LSUB "" *`, `* LSUB () "/" inbox`, "a OK")
+}
+
 func TestP22_2Status(t *testing.T) {
 	c := selected(t)
 	c.flags(32, 33, 1)
